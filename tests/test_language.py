@@ -30,6 +30,8 @@ BARRED_NAMES = set("""register mro elements open input version_info with_traceba
     builtins compile copyright credits delattr dir eval exec exit gc getattr globals hasattr help id importlib license
     locals methodcaller os quit setattr type vars sys""".split())
 
+CHANGING = {"append", "clear", "extend", "insert", "pop", "remove", "reverse", "setdefault", "update"}
+
 BARRED_NODES = (ast.Global, ast.AsyncFunctionDef, ast.AsyncFor, ast.AsyncWith, ast.Await, ast.Import, ast.Div)
 
 FUNCTIONS = (ast.FunctionDef, ast.Lambda)
@@ -63,6 +65,39 @@ def bound_names(tree):
 def method_nodes(tree):
     return [node for owner in ast.walk(tree) if isinstance(owner, ast.ClassDef)
             for node in owner.body if isinstance(node, ast.FunctionDef)]
+
+
+def reached_by_operators():
+    """The names of all functions and methods that operators and properties call, and the bodies behind names."""
+    bodies = {}
+    reached = set()
+    for tree in trees().values():
+        for node in ast.walk(tree):
+            if isinstance(node, ast.FunctionDef) and node.name != "__init__":
+                bodies.setdefault(node.name, []).append(node)
+                plain = any(isinstance(each, ast.Name) and each.id == "property" for each in node.decorator_list)
+                if plain or node.name in SPECIAL_METHODS - {"__call__"}:
+                    reached.add(node.name)
+            elif isinstance(node, ast.FunctionDef):
+                # What creates an object assigns its attributes; what it calls changes nothing either.
+                reached |= called_names(node) & {"are_pieces", "shortest"}
+    open_names = list(reached)
+    while open_names:
+        for body in bodies[open_names.pop()]:
+            new = (called_names(body) & set(bodies)) - reached
+            reached |= new
+            open_names += new
+    return reached, bodies
+
+
+def called_names(body):
+    found = set()
+    for node in ast.walk(body):
+        if isinstance(node, ast.Call) and isinstance(node.func, ast.Name):
+            found.add(node.func.id)
+        elif isinstance(node, ast.Call) and isinstance(node.func, ast.Attribute):
+            found.add(node.func.attr)
+    return found
 
 
 def top_names(tree):
@@ -120,6 +155,30 @@ class Statements(unittest.TestCase):
                         if isinstance(operator, (ast.Is, ast.IsNot)):
                             self.assertIsInstance(right, ast.Constant, (name, node.lineno))
                             self.assertIn(right.value, (None, True, False), (name, node.lineno))
+
+    def test_no_generator_expressions_and_no_sort(self):
+        # Beside classes that compare and have operators these would need lists, so none is used at all.
+        for name, tree in trees().items():
+            for node in ast.walk(tree):
+                self.assertNotIsInstance(node, ast.GeneratorExp, (name, getattr(node, "lineno", None)))
+                self.assertFalse(isinstance(node, ast.Attribute) and node.attr == "sort", name)
+
+    def test_operators_change_nothing(self):
+        """Nothing that an operator, ==, len or a property reaches assigns an attribute or an item, but __init__."""
+        reached, bodies = reached_by_operators()
+        self.assertIn("shortest", reached)
+        for name in reached:
+            for body in bodies[name]:
+                made = {node.targets[0].id for node in ast.walk(body) if isinstance(node, ast.Assign)
+                        and isinstance(node.targets[0], ast.Name) and isinstance(node.value, (ast.List, ast.ListComp))}
+                parameters = {node.arg for node in body.args.args}
+                for node in ast.walk(body):
+                    if isinstance(node, (ast.Attribute, ast.Subscript)):
+                        self.assertIsInstance(node.ctx, ast.Load, (name, node.lineno))
+                    if isinstance(node, ast.Call) and isinstance(node.func, ast.Attribute) and node.func.attr in CHANGING:
+                        self.assertIn(node.func.value.id, made, (name, node.lineno))
+                    if isinstance(node, ast.Call) and isinstance(node.func, ast.Name):
+                        self.assertNotIn(node.func.id, parameters, (name, node.lineno))
 
     def test_special_methods(self):
         for name, tree in trees().items():

@@ -33,3 +33,14 @@ LINES = [
     (0, 0), (0, 1), (0, -1), (1, 0), (-1, 0), (2, 1), (2, 2), (-2, 1), (2, -6), (3, 3), (4, 8), (-5, 7),
     (10 ** 60 - 1, 1), (1, 1 - 10 ** 60), (10 ** 59, -10 ** 59), (-10 ** 30, 10 ** 31),
 ]
+
+NAMES = ["a", "z", "p", "ab", "queue", "work", "task", "abcdefgh", "zzzzzzzz", "await"]
+
+NOT_NAMES = [
+    None, True, 0, 1, 1.5, "", "A", "Z", "aB", "a1", "1", "a_b", "_", "a b", " a", "a ", "a-b", "a\n", "a.", "abcdefghi",
+    "abcdefgh ", "ABCDEFGH", b"a", ("a",), ["a"], {"a": 1}, {"a"}, (), [], {}, object(), Plain(), Plain, len, ("a", "b"),
+]
+
+SLOWNESSES = [x for x in FRACTIONS if x[0] >= 0]
+
+NOT_SLOWNESSES = OTHER_VALUES + UNREDUCED + [0, 1, -3, 10 ** 60, (-1, 1), (-1, 2), (-2, 3), (-10 ** 59, 1)]

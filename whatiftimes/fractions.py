@@ -15,6 +15,17 @@ def require_fraction(value):
         raise InvalidNumber(value)
 
 
+def is_slowness(value):
+    """Tell whether any value is a fraction that is not negative."""
+    return is_fraction(value) and value[0] >= 0
+
+
+def require_slowness(value):
+    """Raise InvalidNumber unless any value is a slowness."""
+    if not is_slowness(value):
+        raise InvalidNumber(value)
+
+
 def fraction(number, divisor):
     """Return the fraction that stands for the quotient of two integers."""
     if not is_whole(number):
@@ -32,6 +43,11 @@ def compared(one, other):
     """Return -1, 0 or 1, as the first fraction is less than, equal to or greater than the second one."""
     require_fraction(one)
     require_fraction(other)
+    return order_of(one, other)
+
+
+def order_of(one, other):
+    """Return what compared returns, for two values that are known to be fractions."""
     return sign_of(one[0] * other[1] - other[0] * one[1])
 
 

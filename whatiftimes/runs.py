@@ -1,0 +1,37 @@
+"""Runs of programs, and the checker of their journals."""
+
+from whatiftimes.engine import State, make_choice
+from whatiftimes.fractions import require_slowness
+from whatiftimes.names import require_name
+from whatiftimes.same import is_same
+
+
+def run(program, setting, part, x):
+    """Return the tuple (journal, waiting, total) of the run at the slowness x of a part."""
+    require_name(part)
+    require_slowness(x)
+    state = State(program, setting, part, x)
+    task = state.first_ready()
+    while task is not None:
+        make_choice(state, task)
+        task = state.first_ready()
+    total = state.total()
+    journal = [state.told(entry) for entry in state.entries]
+    return (journal, state.waiting(), None if total is None else state.time_of(total))
+
+
+def events(program, setting, part, x):
+    """Yield the entries of the journal of a run, one by one."""
+    for entry in run(program, setting, part, x)[0]:
+        yield entry
+
+
+def check_journal(program, setting, part, x, value):
+    """Return None if any value is the journal of the run, otherwise the index of what is wrong first."""
+    journal = run(program, setting, part, x)[0]
+    if not isinstance(value, list):
+        return 0
+    for index, entry in enumerate(value):
+        if index == len(journal) or not is_same(entry, journal[index]):
+            return index
+    return None if len(value) == len(journal) else len(value)
