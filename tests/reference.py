@@ -164,3 +164,54 @@ def some_setting(seed):
 def some_slowness(seed):
     source = random.Random(seed)
     return pair(Fraction(source.randint(0, 12), source.randint(1, 6)))
+
+
+def lively_task(source, puts, gets, amounts):
+    """A task that works and takes locks, puts so many values in its first half and gets so many in its second one."""
+    first = ["work", "lock"] * source.randint(0, 1) + ["both"] * (source.random() < 0.15) + ["put"] * puts
+    second = ["work", "lock"] * source.randint(0, 1) + ["get"] * gets
+    source.shuffle(first)
+    source.shuffle(second)
+    steps = []
+    for kind in ["work"] + first + second:
+        parts = [("work", source.choice(PARTS), source.randint(*amounts)) for index in range(2)]
+        locks = source.sample(("m", "n"), 2)
+        if kind == "work":
+            steps += parts[:1]
+        elif kind == "lock":
+            steps += [("take", locks[0]), parts[0], ("give", locks[0])]
+        elif kind == "both":
+            steps += [("take", locks[0]), parts[0], ("take", locks[1]), ("give", locks[0]), ("give", locks[1])]
+        elif kind == "put":
+            steps.append(("put", "q", source.randint(0, 2)))
+        else:
+            steps += [("get", "q"), ("skip", source.randint(0, 2), 1), parts[0]]
+    return tuple(steps[:20])
+
+
+def lively_program(seed):
+    """A program that is seldom stuck and whose total often changes with the order of events."""
+    source = random.Random(seed)
+    many = source.randint(2, 6)
+    shared = source.randint(0, 5)
+    puts, gets = [0] * many, [0] * many
+    for index in range(shared):
+        puts[source.randrange(many)] += 1
+        gets[source.randrange(many)] += 1
+    amounts = source.choice(((0, 6), (1, 3), (1, 40), (0, 10 ** 6)))
+    tasks = tuple(lively_task(source, puts[number], min(gets[number], 3), amounts) for number in range(many))
+    return Program(tasks, {"q": source.choice((1, 2, 5, 5, 9))})
+
+
+def crowded_program(seed):
+    """Six tasks that take one of two locks again and again, each time for another while."""
+    source = random.Random(seed)
+    tasks = []
+    for number in range(6):
+        steps = []
+        for turn in range(5):
+            lock = source.choice("mn")
+            works = [("work", source.choice("pq"), source.randint(1, 1000)) for index in range(2)]
+            steps += [("take", lock), works[0], ("give", lock), works[1]]
+        tasks.append(tuple(steps))
+    return Program(tuple(tasks))

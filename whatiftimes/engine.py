@@ -45,10 +45,14 @@ class State:
     def first_at_work(self):
         """Return a ready task whose next step is a work, None if there is none."""
         for task, phase in enumerate(self.phases):
-            if phase == "ready" and self.nexts[task] < len(self.plans[task]):
-                if self.plans[task][self.nexts[task]][0] == "work":
-                    return task
+            if phase == "ready" and self.is_at_work(task):
+                return task
         return None
+
+    def is_at_work(self, task):
+        """Tell whether the next step of a task is a work."""
+        steps, at = self.plans[task], self.nexts[task]
+        return at < len(steps) and steps[at][0] == "work"
 
     def finish(self, task):
         """Enter the next step of a task as done now, and let the task go on to the step behind it."""
@@ -201,3 +205,11 @@ def make_choice(state, task):
     else:
         action = ACTIONS[steps[at][0]]
         action(state, task, steps[at])
+
+
+def run_to_end(state):
+    """Make all choices that are left."""
+    task = state.first_ready()
+    while task is not None:
+        make_choice(state, task)
+        task = state.first_ready()

@@ -1,6 +1,6 @@
 """Runs of programs, and the checker of their journals."""
 
-from whatiftimes.engine import State, make_choice
+from whatiftimes.engine import State, run_to_end
 from whatiftimes.fractions import require_slowness
 from whatiftimes.names import require_name
 from whatiftimes.same import is_same
@@ -11,10 +11,7 @@ def run(program, setting, part, x):
     require_name(part)
     require_slowness(x)
     state = State(program, setting, part, x)
-    task = state.first_ready()
-    while task is not None:
-        make_choice(state, task)
-        task = state.first_ready()
+    run_to_end(state)
     total = state.total()
     journal = [state.told(entry) for entry in state.entries]
     return (journal, state.waiting(), None if total is None else state.time_of(total))

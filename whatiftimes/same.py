@@ -4,7 +4,7 @@ from whatiftimes.integers import is_whole
 
 
 def is_same(value, wanted):
-    """Tell whether any value is the wanted one, of integers, texts, None, and tuples and lists of such."""
+    """Tell whether any value is the wanted one, of integers, texts, and tuples and lists of such."""
     # Python's == alone does not do: it takes True for 1.
     if isinstance(wanted, tuple):
         return isinstance(value, tuple) and are_same(value, wanted)
@@ -12,9 +12,7 @@ def is_same(value, wanted):
         return isinstance(value, list) and are_same(value, wanted)
     if is_whole(wanted):
         return is_whole(value) and value == wanted
-    if isinstance(wanted, str):
-        return isinstance(value, str) and value == wanted
-    return value is None
+    return isinstance(value, str) and value == wanted
 
 
 def are_same(values, wanted):
