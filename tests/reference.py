@@ -14,13 +14,13 @@ def pair(quotient):
 
 
 class Reference:
-    """One run; times are Python's own fractions."""
+    """One run, made choice by choice; times are Python's own fractions. Its program may be exchanged on the way."""
 
     def __init__(self, program, setting, part, x):
         self.program = program
         self.setting = setting
-        self.slow = {name: Fraction(setting.slowness(name)) for name in program.parts()}
-        self.slow[part] = Fraction(*x)
+        self.part = part
+        self.x = Fraction(*x)
         many = len(program.tasks)
         self.time = [Fraction(0)] * many
         self.at = [0] * many
@@ -32,8 +32,21 @@ class Reference:
         self.queue = {}
         self.journal = []
         self.chosen = []
+
+    def slowness(self, part):
+        return self.x if part == self.part else self.setting.slowness(part)
+
+    def finish(self):
         while "ready" in self.status:
             self.choose()
+        return self
+
+    def ready(self):
+        return [(pair(t), task) for t, task in sorted((self.time[task], task) for task in range(len(self.at))
+                                                      if self.status[task] == "ready")]
+
+    def waiting(self):
+        return [(task, self.at[task]) for task in range(len(self.at)) if self.status[task] == "waits"]
 
     def current(self, task):
         return self.program.tasks[task][self.at[task]]
@@ -71,7 +84,7 @@ class Reference:
     def do(self, task, t):
         """The current step of a task that may go on, and what follows at once."""
         step = self.current(task)
-        self.enter(task, t + step[2] * self.slow[step[1]] if step[0] == "work" else t)
+        self.enter(task, t + step[2] * self.slowness(step[1]) if step[0] == "work" else t)
         self.at[task] += 1
         self.status[task] = "ready"
         if step[0] == "take":
@@ -96,17 +109,16 @@ class Reference:
             self.do(task, t)
 
     def result(self):
-        waiting = [(task, self.at[task]) for task in range(len(self.at)) if self.status[task] == "waits"]
-        total = None if waiting else pair(max(self.time))
-        return (self.journal, waiting, total)
+        total = None if self.waiting() else pair(max(self.time))
+        return (self.journal, self.waiting(), total)
 
 
 def wanted_run(program, setting, part, x):
-    return Reference(program, setting, part, x).result()
+    return Reference(program, setting, part, x).finish().result()
 
 
 def wanted_choices(program, setting, part, x):
-    return Reference(program, setting, part, x).chosen
+    return Reference(program, setting, part, x).finish().chosen
 
 
 PARTS = ("p", "r", "s")

@@ -1,17 +1,17 @@
 """Where the choices of runs change: runs directly behind a slowness, and the next cut behind it."""
 
-from whatiftimes.engine import State, make_choice, run_to_end
+from whatiftimes.engine import State, finished_state, make_choice
 from whatiftimes.fractions import fraction, order_of
 
 
-def slowness_behind(program, part, x):
-    """Return a slowness behind x, with no cut between them, that is no cut itself."""
+def slowness_beside(program, part, x, side):
+    """Return a slowness behind x (side 1) or ahead of it (side -1), with no cut from there to x, but for x."""
     amounts = [step[2] for task in program.tasks for step in task if step[:2] == ("work", part)]
     # The slopes of two times differ by less than many. So where two times of the run differ at x, they do so by too
     # much to meet at a distance of one divided by many and by the divisor of x, and where they are the same, their
-    # slopes tell which one is less behind x.
+    # slopes tell which one is less beside x.
     many = sum(amounts) + 1
-    return fraction(x[0] * many + 1, x[1] * many)
+    return fraction(x[0] * many + side, x[1] * many)
 
 
 def run_behind(program, setting, part, x, hasty):
@@ -20,7 +20,7 @@ def run_behind(program, setting, part, x, hasty):
     A hasty run does all works ahead of other steps. A work touches no other task, so all other steps are done in the
     same order and at the same times as ever, and only those slownesses are cuts at which this order changes.
     """
-    state = State(program, setting, part, slowness_behind(program, part, x))
+    state = State(program, setting, part, slowness_beside(program, part, x, 1))
     cut = None
     task = next_task(state, hasty)
     while task is not None:
@@ -53,9 +53,7 @@ def stretches(program, setting, part, low, high, hasty):
     """Yield the tuples (at, x, state) and (between, x, y, state) of a range, with the runs there that are over."""
     x = low
     while x is not None:
-        state = State(program, setting, part, x)
-        run_to_end(state)
-        yield ("at", x, state)
+        yield ("at", x, finished_state(program, setting, part, x))
         if x == high:
             return
         state, cut = run_behind(program, setting, part, x, hasty)

@@ -24,7 +24,7 @@ def regimes(program, setting, part, low, high=None):
 def regime_of(stretch):
     """Return the regime of a stretch: its journal and its waiting tasks in the place of its state."""
     state = stretch[-1]
-    journal = [state.told(entry) for entry in state.entries] if stretch[0] == "at" else list(state.entries)
+    journal = state.journal() if stretch[0] == "at" else list(state.entries)
     return (*stretch[:-1], journal, state.waiting())
 
 
@@ -38,7 +38,5 @@ def profile(program, setting, part, low, high=None):
 def piece_of(stretch):
     """Return the piece of a stretch: its total in the place of its state."""
     state = stretch[-1]
-    total = state.total()
-    if total is not None and stretch[0] == "at":
-        total = state.time_of(total)
+    total = state.told_total() if stretch[0] == "at" else state.total()
     return (*stretch[:-1], total)

@@ -2,6 +2,7 @@
 
 from whatiftimes.errors import InvalidText
 from whatiftimes.names import is_name
+from whatiftimes.numerals import whole_of
 from whatiftimes.steps import MOST_STEPS, MOST_TASKS, form_of, is_step
 
 
@@ -17,15 +18,6 @@ def program_text(tasks, capacities):
         rows.append("task")
         rows.extend([step_row(step) for step in task])
     return "\n".join(rows)
-
-
-def whole_of(word):
-    """Return the integer from 0 that a word tells, None if it is not written as one."""
-    if not word.isascii() or not word.isdigit():
-        return None
-    if len(word) > 1 and word[0] == "0":
-        return None
-    return int(word)
 
 
 def read_step_row(row):

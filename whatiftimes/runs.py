@@ -1,6 +1,6 @@
 """Runs of programs, and the checker of their journals."""
 
-from whatiftimes.engine import State, run_to_end
+from whatiftimes.engine import finished_state
 from whatiftimes.fractions import require_slowness
 from whatiftimes.names import require_name
 from whatiftimes.same import is_same
@@ -10,11 +10,8 @@ def run(program, setting, part, x):
     """Return the tuple (journal, waiting, total) of the run at the slowness x of a part."""
     require_name(part)
     require_slowness(x)
-    state = State(program, setting, part, x)
-    run_to_end(state)
-    total = state.total()
-    journal = [state.told(entry) for entry in state.entries]
-    return (journal, state.waiting(), None if total is None else state.time_of(total))
+    state = finished_state(program, setting, part, x)
+    return (state.journal(), state.waiting(), state.told_total())
 
 
 def events(program, setting, part, x):
