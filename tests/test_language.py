@@ -180,6 +180,30 @@ class Statements(unittest.TestCase):
                     if isinstance(node, ast.Call) and isinstance(node.func, ast.Name):
                         self.assertNotIn(node.func.id, parameters, (name, node.lineno))
 
+    def test_finally_only_assigns_what_was_there(self):
+        found = 0
+        for name, tree in trees().items():
+            for block in [node.finalbody for node in ast.walk(tree) if isinstance(node, ast.Try)]:
+                for node in block:
+                    found += 1
+                    self.assertIsInstance(node, ast.Assign, (name, node.lineno))
+                    values = node.value.elts if isinstance(node.value, ast.Tuple) else [node.value]
+                    self.assertTrue(all(isinstance(value, ast.Name) for value in values), (name, node.lineno))
+        self.assertEqual(found, 2)
+
+    def test_own_functions_in_tables_are_called_by_a_name(self):
+        for name, tree in trees().items():
+            for node in ast.walk(tree):
+                if isinstance(node, ast.Call):
+                    self.assertIsInstance(node.func, (ast.Name, ast.Attribute), (name, node.lineno))
+
+    def test_stars_in_calls_stand_before_names(self):
+        for name, tree in trees().items():
+            for node in ast.walk(tree):
+                if isinstance(node, ast.Call):
+                    for star in [each for each in node.args if isinstance(each, ast.Starred)]:
+                        self.assertIsInstance(star.value, ast.Name, (name, node.lineno))
+
     def test_special_methods(self):
         for name, tree in trees().items():
             for node in ast.walk(tree):
