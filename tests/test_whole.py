@@ -11,17 +11,20 @@ from tests.reference import lively_program, pair, some_program, some_setting, so
 from whatiftimes.bench import Bench
 from whatiftimes.console import Console
 from whatiftimes.edits import best_setting, first_difference, gain, slopes
+from whatiftimes.errors import InvalidJournal, InvalidNumber, InvalidProgram, InvalidShape, InvalidSighting
+from whatiftimes.fractions import is_fraction, total_of
+from whatiftimes.lines import is_line
 from whatiftimes.machines import Machine
 from whatiftimes.orders import befores, critical, kept_times, kept_total, slacks
 from whatiftimes.papers import check_paper, make_paper, read_paper
 from whatiftimes.pictures import bars, read_table, table
-from whatiftimes.programs import Program
+from whatiftimes.programs import Program, is_step
 from whatiftimes.recorder import read_journal, recovered, write_journal
 from whatiftimes.regimes import profile, regimes
 from whatiftimes.runs import check_journal, events, run
 from whatiftimes.settings import Setting
 from whatiftimes.shapes import Shape, flat
-from whatiftimes.sightings import is_shown, places
+from whatiftimes.sightings import is_shown, is_sighting, places
 from whatiftimes.texts import read_program, read_step, write_program, write_step
 
 ZERO = (0, 1)
@@ -109,6 +112,119 @@ class Interface(unittest.TestCase):
 
     def test_events_is_a_generator(self):
         self.assertTrue(inspect.isgenerator(events(Program(((),)), Setting(), "no name", None)))
+
+
+def arguments(program, setting):
+    """A value for each name of a parameter; where a name means several things, by the function, too."""
+    journal = run(program, setting, "p", ONE)[0]
+    return {
+        "program": program, "setting": setting, "part": "p", "x": ONE, "low": ZERO, "high": ONE, "journal": journal, "value": journal, "some": [ONE, ONE],
+        "number": 6, "divisor": 4, "line": (2, 1), "time": ONE, "tasks": 2, "costs": {"p": 1}, "budget": 2, "paper": make_paper(program, setting, "p", ZERO, ONE),
+        "sighting": ("stuck",), "sightings": [("stuck",)], "shape": flat(ZERO, ONE, ONE), "step": ("take", "m"), "text": "take m",
+        ("compared", "one"): ZERO, ("compared", "other"): ONE, ("meeting", "one"): (1, 0), ("meeting", "other"): (0, 1),
+        ("order_within", "one"): (1, 0), ("order_within", "other"): (0, 1), ("first_difference", "one"): program, ("first_difference", "other"): program,
+        ("gain", "one"): program, ("gain", "other"): program.changed(0, 0, ("get", "z")), ("read_table", "text"): "at 0 1", ("read_program", "text"): "task",
+        ("check_paper", "value"): make_paper(program, setting, "p", ZERO, ONE)[:1], ("is_step", "value"): ("take", "m"),
+    }
+
+
+class ByName(unittest.TestCase):
+    """Each function, method and class called by the names of its parameters, in another order, does the same."""
+
+    def assert_same(self, function, names, values):
+        named = {name: values[name] for name in reversed(names)}
+        one, other = function(*[values[name] for name in names]), function(**named)
+        if inspect.isgenerator(one):
+            one, other = list(one), list(other)
+        self.assertEqual(one, other)
+
+    def test_functions(self):
+        program, setting = Program(((("work", "p", 2), ("take", "m")), (("work", "q", 3),))), Setting({"q": 2})
+        known = arguments(program, setting)
+        for name, functions in FUNCTIONS.items():
+            for function in functions:
+                called = getattr(module(name), function)
+                names = list(inspect.signature(called).parameters)
+                self.assert_same(called, names, {each: known.get((function, each), known.get(each)) for each in names})
+
+    def test_classes_and_methods(self):
+        program, setting = Program(tasks=((("work", "p", 2), ("take", "m")), ()), capacities={"q": 2}), Setting(slownesses={"p": 3}, rule="number")
+        shape, journal = Shape(pieces=[("at", ZERO, ONE), ("between", ZERO, None, (1, 1))]), run(program, setting, "p", ONE)[0]
+        machine, bench, console = Machine(program=program, setting=setting, part="p", x=ONE), Bench(), Console()
+        bench.store(name="one", program=program)
+        values = {"task": 0, "index": 1, "step": ("take", "n"), "queue": "r", "capacity": 3, "text": "task", "part": "p", "slowness": 4, "x": ONE, "name": "one",
+                  "program": program, "setting": setting, "journal": journal, "visitor": len, "change": lambda kept: kept, "command": "names"}
+        for owner in (program, setting, shape, machine, bench, console):
+            kind = type(owner)
+            for method in CLASSES[(kind.__module__.partition(".")[2], kind.__name__)]:
+                called = getattr(owner, method)
+                names = list(inspect.signature(called).parameters)
+                if not method.startswith("__") and names and (kind, method) != (Bench, "drop"):
+                    self.assert_same(called, names, values)
+        self.assertEqual(shape(x=ONE), shape(ONE))
+        bench.drop(name="one")
+        self.assertEqual(bench.names(), [])
+
+
+def nearly(value):
+    """All values that == calls equal to a value or nearly so, with one bool for an integer or one list for a tuple in it."""
+    if isinstance(value, int) and value in (0, 1):
+        yield bool(value)
+    if isinstance(value, tuple):
+        yield list(value)
+    if isinstance(value, (list, tuple)):
+        for index, item in enumerate(value):
+            for other in nearly(item):
+                yield type(value)([*value[:index], other, *value[index + 1:]])
+
+
+class Nearly(unittest.TestCase):
+    """No checker takes a bool for an integer or a list for a tuple, however deep it stands."""
+
+    PROGRAM = Program(((("work", "p", 1), ("put", "q", 1), ("skip", 0, 1), ("await", 1)), (("get", "q"),), (("get", "q"),)))
+
+    def assert_refused(self, error, attribute, wanted, function, *args):
+        with self.assertRaises(error) as caught:
+            function(*args)
+        self.assertEqual(getattr(caught.exception, attribute), wanted)
+
+    def test_small_values(self):
+        for value in nearly((1, 1)):
+            self.assertIs(is_fraction(value), False)
+            self.assertIs(is_line(value), False)
+            self.assert_refused(InvalidNumber, "value", value, total_of, [(0, 1), value])
+            self.assert_refused(InvalidNumber, "value", value, run, self.PROGRAM, Setting(), "p", value)
+        for step in (("work", "p", 1), ("take", "m"), ("put", "q", 0), ("get", "q"), ("skip", 1, 1), ("await", 0)):
+            self.assertIs(is_step(step, 1), True)
+            for value in nearly(step):
+                self.assertIs(is_step(value, 1), False)
+        for sighting in (("done", 0, 1, ONE), ("within", 1, 0, ZERO, ONE), ("ahead", 0, 0, 1, 1), ("never", 1, 1), ("total", ONE), ("stuck",)):
+            self.assertIs(is_sighting(self.PROGRAM, sighting), True)
+            for value in nearly(sighting):
+                self.assertIs(is_sighting(self.PROGRAM, value), False)
+                self.assert_refused(InvalidSighting, "index", 1, places, self.PROGRAM, Setting(), "p", ZERO, ONE, [("stuck",), value])
+
+    def test_programs(self):
+        for tasks in nearly(self.PROGRAM.tasks):
+            self.assertRaises(InvalidProgram, Program, tasks)
+
+    def test_shapes(self):
+        for pieces in nearly(profile(self.PROGRAM, Setting(), "p", ZERO, ONE).pieces()):
+            with self.assertRaises(InvalidShape) as caught:
+                Shape(pieces)
+            self.assertIs(caught.exception.value, pieces)
+
+    def test_journals_and_papers(self):
+        for x in (ZERO, ONE, (1, 2)):
+            journal = run(self.PROGRAM, Setting(), "p", x)[0]
+            for value in nearly(journal):
+                place = next(index for index, entry in enumerate(value) if repr(entry) != repr(journal[index]))
+                self.assertEqual(check_journal(self.PROGRAM, Setting(), "p", x, value), place)
+                self.assert_refused(InvalidJournal, "index", place, Machine.behind, self.PROGRAM, Setting(), "p", x, value)
+        paper = make_paper(self.PROGRAM, Setting(), "p", ZERO, ONE)
+        for value in nearly(paper):
+            place = next(index for index, row in enumerate(value) if repr(row) != repr(paper[index]))
+            self.assertEqual(check_paper(self.PROGRAM, Setting(), "p", ZERO, ONE, value), place)
 
 
 def answers(program, setting, x):
