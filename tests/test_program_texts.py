@@ -123,6 +123,11 @@ class ReadErrors(TextTest):
                 self.assert_place(0, row + "\ntask")
                 self.assert_place(1, "queue a 2\n" + row + "\nqueue a 3\ntask")
 
+    def test_capacities_of_one_character(self):
+        for code in range(ord(" "), ord("~") + 1):
+            if chr(code) not in "123456789":
+                self.assert_place(0, f"queue q {chr(code)}\ntask")
+
     def test_no_task(self):
         self.assert_place(0, "")
         self.assert_place(1, "queue q 2")
